@@ -1,0 +1,1 @@
+"""Ordernest: sets of orders, kept as shared rooms."""

@@ -1,0 +1,117 @@
+"""Holds the package's files against the rules of the language part that can be seen by a short look."""
+
+import ast
+import builtins
+import re
+import unittest
+from pathlib import Path
+
+PACKAGE = Path(__file__).resolve().parent.parent / "ordernest"
+STATEMENTS = (
+    ast.Assign, ast.AugAssign, ast.If, ast.While, ast.For, ast.Return, ast.Break, ast.Continue, ast.Pass,
+    ast.Raise, ast.Try, ast.Expr, ast.FunctionDef, ast.ClassDef, ast.ImportFrom,
+)
+NO_EXPRESSIONS = (
+    ast.Div, ast.SetComp, ast.DictComp, ast.GeneratorExp, ast.NamedExpr, ast.Starred, ast.Set, ast.MatMult,
+)
+OWN_NAMES = set(
+    "len range enumerate zip min max sum abs sorted reversed int str bool list tuple dict set frozenset isinstance "
+    "ord repr any all divmod Exception ValueError TypeError KeyError IndexError LookupError ZeroDivisionError "
+    "ArithmeticError OverflowError RuntimeError NotImplementedError AttributeError StopIteration".split())
+METHODS = set(
+    "append clear copy count endswith extend find get index insert isalnum isalpha isdigit islower isspace isupper "
+    "items join keys ljust lower lstrip partition pop remove replace reverse rfind rjust rpartition rsplit rstrip "
+    "setdefault split splitlines startswith strip update upper values zfill bit_length".split())
+NO_WORDS = set(
+    "type typing typing_extensions enum Enum IntEnum StrEnum Flag IntFlag Generic Protocol ABC ABCMeta namedtuple "
+    "NamedTuple TypedDict TYPE_CHECKING abstractmethod".split())
+
+
+def named(tree):
+    """Each name that a file binds or reads, but the methods of Python's own values."""
+    for node in ast.walk(tree):
+        if isinstance(node, ast.Name):
+            yield node.id
+        if isinstance(node, (ast.FunctionDef, ast.ClassDef)):
+            yield node.name
+        if isinstance(node, ast.arg):
+            yield node.arg
+        if isinstance(node, ast.Attribute):
+            yield node.attr
+
+
+class Language(unittest.TestCase):
+    def each(self):
+        for path in sorted(PACKAGE.glob("*.py")):
+            text = path.read_text(encoding="utf-8")
+            yield path, text, ast.parse(text, path.name)
+
+    def test_files(self):
+        for path in PACKAGE.iterdir():
+            if path.name != "__pycache__":
+                self.assertRegex(path.name, r"^[a-z_0-9]+\.py$")
+        self.assertTrue((PACKAGE / "__init__.py").exists())
+
+    def test_size_and_signs(self):
+        for _, text, tree in self.each():
+            self.assertLessEqual(len(text.splitlines()), 400)
+            self.assertTrue(all(len(row) <= 120 for row in text.splitlines()))
+            self.assertRegex(text, r"\A[ -~\n]*\Z")
+            for node in ast.walk(tree):
+                if isinstance(node, ast.FunctionDef):
+                    self.assertLessEqual(node.end_lineno - node.lineno + 1, 40)
+
+    def test_words(self):
+        for _, text, _ in self.each():
+            self.assertEqual(set(re.findall(r"\w+", text)) & NO_WORDS, set())
+            self.assertNotRegex(text, "dataclass|overload|contextmanager")
+
+    def test_imports(self):
+        drawn = {}
+        for path, _, tree in self.each():
+            drawn[path.stem] = []
+            for node in ast.walk(tree):
+                if isinstance(node, ast.ImportFrom):
+                    self.assertRegex(node.module, r"^ordernest\.[a-z_]+$")
+                    drawn[path.stem].append(node.module.split(".")[1])
+        self.assertEqual(drawn["__init__"], [])
+        while drawn:
+            free = [stem for stem in drawn if not any(other in drawn for other in drawn[stem])]
+            self.assertNotEqual(free, [], "files that draw from one another")
+            for stem in free:
+                drawn.pop(stem)
+
+    def test_statements_and_expressions(self):
+        for _, _, tree in self.each():
+            for node in ast.walk(tree):
+                self.assertNotIsInstance(node, NO_EXPRESSIONS)
+                if isinstance(node, ast.stmt):
+                    self.assertIsInstance(node, STATEMENTS)
+                if isinstance(node, ast.Constant):
+                    self.assertNotIsInstance(node.value, (float, complex, bytes))
+                if isinstance(node, ast.ListComp):
+                    self.assertEqual(len(node.generators), 1)
+                    self.assertLessEqual(len(node.generators[0].ifs), 1)
+                if isinstance(node, (ast.FunctionDef, ast.ClassDef)):
+                    self.assertEqual(node.decorator_list, [])
+                if isinstance(node, ast.Assign):
+                    self.assertEqual(len(node.targets), 1)
+
+    def test_names(self):
+        own = set()
+        for _, _, tree in self.each():
+            own |= {node.name for node in ast.walk(tree) if isinstance(node, (ast.FunctionDef, ast.ClassDef))}
+            for name in named(tree):
+                self.assertTrue(name == "__init__" or not name.startswith("_"), name)
+            for node in ast.walk(tree):
+                if isinstance(node, ast.Name) and hasattr(builtins, node.id):
+                    self.assertIn(node.id, OWN_NAMES)
+                    self.assertIsInstance(node.ctx, ast.Load)
+        for _, _, tree in self.each():
+            for node in ast.walk(tree):
+                if isinstance(node, ast.Call) and isinstance(node.func, ast.Attribute):
+                    self.assertIn(node.func.attr, METHODS | own)
+
+
+if __name__ == "__main__":
+    unittest.main()
