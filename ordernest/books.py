@@ -140,6 +140,29 @@ def shelve(shelf, orders, place):
     return shelf.keep(tuple(doors))
 
 
+# The book of the orders that lead from a state to the end. doors_from tells for
+# a state the pairs of each thing that may come next, rising, and the state
+# behind it; END and NO_ROOM are states too, all others are tuples. States from
+# which like things go on may stand apart: the shelf makes one room of them.
+def grown(many, state, doors_from):
+    shelf = Shelf()
+    first = grow(shelf, state, doors_from, {NO_ROOM: NO_ROOM, END: END})
+    return (many, shelf.rooms, first)
+
+
+# Doors behind which the end can't be come to are left out, so each room that
+# is kept stands behind a door of a room that is kept, or is the first one.
+def grow(shelf, state, doors_from, known):
+    if state not in known:
+        doors = []
+        for thing, later in doors_from(state):
+            number = grow(shelf, later, doors_from, known)
+            if number != NO_ROOM:
+                doors.append((thing, number))
+        known[state] = shelf.keep(tuple(doors)) if len(doors) > 0 else NO_ROOM
+    return known[state]
+
+
 # Rows are made once for each room, as the rooms behind its doors stand ahead.
 def orders_in(book):
     look_book(book)

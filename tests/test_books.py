@@ -6,7 +6,7 @@ from random import Random
 from ordernest.books import book_of, has, look_book, orders_in
 from ordernest.errors import BadBook, BadOrder
 from tests.wording import (
-    MUCH, all_orders, every_book, moved, plain_book, rows_of_rooms, some_orders, subsets,
+    MUCH, all_orders, every_book, moved, plain_book, rows_of_rooms, some_orders, some_sets, subsets,
 )
 
 NO_COUNTS = [0, 9, 10, -1, -8, MUCH, -MUCH]
@@ -19,21 +19,6 @@ ALL_OF_THREE = (3, [
     ((0, 3), (1, 5)),
     ((0, 4), (1, 6), (2, 7)),
 ], 8)
-
-
-def some_sets():
-    """Sets of orders of 1 to 8 things: all of them for the first counts, then some."""
-    for many in (1, 2, 3):
-        for orders in subsets(all_orders(many)):
-            yield many, orders
-    for many in range(4, 9):
-        for seed, count in enumerate((0, 1, 2, 3, 10, 20)):
-            yield many, sorted(some_orders(many, count, 10 * many + seed))
-    yield 4, all_orders(4)
-    yield 5, all_orders(5)
-    yield 5, [order for order in all_orders(5) if order[1] != 3]
-    yield 6, some_orders(6, 400, 6)
-    yield 7, some_orders(7, 1500, 7)
 
 
 def with_room(book, place, *rooms):

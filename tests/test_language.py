@@ -112,6 +112,29 @@ class Language(unittest.TestCase):
                 if isinstance(node, ast.Call) and isinstance(node.func, ast.Attribute):
                     self.assertIn(node.func.attr, METHODS | own)
 
+    def test_locals_are_called_unlike_imports_and_classes(self):
+        for _, _, tree in self.each():
+            taken = {node.name for node in tree.body if isinstance(node, ast.ClassDef)}
+            for node in tree.body:
+                if isinstance(node, ast.ImportFrom):
+                    taken |= {alias.asname or alias.name for alias in node.names}
+            for node in ast.walk(tree):
+                if isinstance(node, ast.arg):
+                    self.assertFalse(node.arg in taken or hasattr(builtins, node.arg), node.arg)
+                if isinstance(node, ast.Name) and isinstance(node.ctx, ast.Store):
+                    self.assertNotIn(node.id, taken)
+
+    def test_names_of_the_top_are_bound_once_to_plain_values(self):
+        for _, _, tree in self.each():
+            bound = []
+            for node in tree.body:
+                if isinstance(node, ast.Assign):
+                    bound.append(node.targets[0].id)
+                    ast.literal_eval(node.value)
+                if isinstance(node, (ast.FunctionDef, ast.ClassDef)):
+                    bound.append(node.name)
+            self.assertEqual(len(bound), len(set(bound)))
+
 
 if __name__ == "__main__":
     unittest.main()

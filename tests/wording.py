@@ -1,6 +1,6 @@
-"""What the document's words say of orders and books, done the slow and plain way."""
+"""What the document's words say of orders, books and rules, done the slow and plain way."""
 
-from itertools import permutations
+from itertools import combinations, permutations
 from random import Random
 
 MUCH = 10 ** 15 - 1
@@ -17,6 +17,21 @@ def some_orders(many, count, seed):
 def subsets(things):
     for bits in range(2 ** len(things)):
         yield [thing for k, thing in enumerate(things) if bits >> k & 1]
+
+
+def some_sets():
+    """Sets of orders of 1 to 8 things: all of them for the first counts, then some."""
+    for many in (1, 2, 3):
+        for orders in subsets(all_orders(many)):
+            yield many, orders
+    for many in range(4, 9):
+        for seed, count in enumerate((0, 1, 2, 3, 10, 20)):
+            yield many, sorted(some_orders(many, count, 10 * many + seed))
+    yield 4, all_orders(4)
+    yield 5, all_orders(5)
+    yield 5, [order for order in all_orders(5) if order[1] != 3]
+    yield 6, some_orders(6, 400, 6)
+    yield 7, some_orders(7, 1500, 7)
 
 
 def plain_book(many, orders, apart=None):
@@ -68,3 +83,56 @@ def moved(book, numbers):
     for k, room in enumerate(rooms):
         placed[numbers[k + 2]] = tuple((thing, numbers[to]) for thing, to in room)
     return (many, [placed[number] for number in sorted(placed)], numbers[first])
+
+
+def no_books():
+    """Some of each kind of what is no book."""
+    alike = [((2, 1),), ((1, 2),), ((2, 1),), ((0, 4),), ((0, 3), (1, 5))]
+    return [
+        (0, [], 0), (9, [], 0), (-1, [], 0), (MUCH, [], 0), (3, [], 1), (3, [], 2), (3, [], -1), (3, [], MUCH),
+        (3, [()], 2), (3, [()], 0), (3, [((0, 1),)], 0), (3, [((0, 1),)], 2), (1, [((1, 1),)], 2),
+        (1, [((-1, 1),)], 2), (1, [((0, 0),)], 2), (1, [((0, 2),)], 2), (1, [((0, 1),)], 1), (1, [((0, 1),)], 3),
+        (2, [((1, 1),), ((0, 1),), ((1, 3), (0, 2))], 4), (2, [((0, 1),), ((1, 1),), ((0, 3), (1, 2))], 4),
+        (2, [((0, 1),), ((0, 2),)], 3), (2, [((0, 1), (1, 1))], 2), (3, alike, 6),
+        (9, [((k, k + 1),) for k in range(9)], 10),
+    ]
+
+
+def keeps(order, rule):
+    """Whether an order keeps a rule, as 5.1 says it of the single order."""
+    word, parts = rule[0], rule[1:]
+    if word == "at":
+        return order[parts[0]] == parts[1]
+    if word == "ahead":
+        return order.index(parts[0]) < order.index(parts[1])
+    if word == "next":
+        return order.index(parts[0]) + 1 == order.index(parts[1])
+    if word == "even":
+        return len([1 for ahead, behind in combinations(order, 2) if ahead > behind]) % 2 == 0
+    if word == "not":
+        return not keeps(order, parts[0])
+    if word == "both":
+        return keeps(order, parts[0]) and keeps(order, parts[1])
+    if word == "either":
+        return keeps(order, parts[0]) or keeps(order, parts[1])
+    raise ValueError(word)
+
+
+def plain_rules(many):
+    """Each rule for so many things that has no rule within."""
+    things = range(many)
+    pairs = list(permutations(things, 2))
+    return ([("even",)] + [("at", place, thing) for place in things for thing in things]
+            + [("ahead", one, other) for one, other in pairs] + [("next", one, other) for one, other in pairs])
+
+
+def drawn_rule(many, depth, chance):
+    """A rule in which just so many stand within one another, the innermost one counted."""
+    if depth == 1:
+        return chance.choice(plain_rules(many))
+    word = chance.choice(["not", "both", "either"])
+    if word == "not":
+        return (word, drawn_rule(many, depth - 1, chance))
+    parts = [drawn_rule(many, depth - 1, chance), drawn_rule(many, chance.randrange(1, depth), chance)]
+    chance.shuffle(parts)
+    return (word, parts[0], parts[1])
