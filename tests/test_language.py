@@ -26,6 +26,16 @@ NO_WORDS = set(
     "type typing typing_extensions enum Enum IntEnum StrEnum Flag IntFlag Generic Protocol ABC ABCMeta namedtuple "
     "NamedTuple TypedDict TYPE_CHECKING abstractmethod".split())
 
+WALKED = set("zip enumerate reversed range items keys values".split())
+WALKERS = set("list tuple dict sorted sum any all enumerate zip min max join".split())
+
+
+def called(node):
+    """What a call calls, and None of what is no call."""
+    if not isinstance(node, ast.Call):
+        return None
+    return node.func.id if isinstance(node.func, ast.Name) else node.func.attr
+
 
 def named(tree):
     """Each name that a file binds or reads, but the methods of Python's own values."""
@@ -134,6 +144,43 @@ class Language(unittest.TestCase):
                 if isinstance(node, (ast.FunctionDef, ast.ClassDef)):
                     bound.append(node.name)
             self.assertEqual(len(bound), len(set(bound)))
+
+    def test_texts_and_comparisons(self):
+        for _, _, tree in self.each():
+            for node in ast.walk(tree):
+                if isinstance(node, ast.FormattedValue):
+                    self.assertIsInstance(node.value, ast.Name)
+                    self.assertIsNone(node.format_spec)
+                if isinstance(node, ast.Constant) and isinstance(node.value, str):
+                    self.assertNotIn("%", node.value)
+                if isinstance(node, ast.BinOp):
+                    self.assertNotIsInstance(node.op, ast.Pow)
+                if isinstance(node, ast.Compare):
+                    for op, value in zip(node.ops, node.comparators):
+                        if isinstance(op, (ast.Is, ast.IsNot)):
+                            self.assertIsInstance(value, ast.Constant)
+
+    def test_walked_at_once(self):
+        for _, _, tree in self.each():
+            walked = []
+            for node in ast.walk(tree):
+                if isinstance(node, (ast.For, ast.comprehension)):
+                    walked.append(node.iter)
+                if called(node) in WALKERS:
+                    walked += node.args[:1]
+            for node in ast.walk(tree):
+                if called(node) in WALKED:
+                    self.assertIn(node, walked)
+
+    def test_no_annotations_and_plain_parameters(self):
+        for _, _, tree in self.each():
+            for node in ast.walk(tree):
+                if isinstance(node, ast.arguments):
+                    self.assertFalse(node.vararg or node.kwarg or node.kwonlyargs or node.posonlyargs)
+                if isinstance(node, ast.arg):
+                    self.assertIsNone(node.annotation)
+                if isinstance(node, ast.FunctionDef):
+                    self.assertIsNone(node.returns)
 
 
 if __name__ == "__main__":

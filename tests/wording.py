@@ -1,4 +1,4 @@
-"""What the document's words say of orders, books and rules, done the slow and plain way."""
+"""What the document's words say of orders, books, rules, groups and weights, done the slow and plain way."""
 
 from itertools import combinations, permutations
 from random import Random
@@ -136,3 +136,40 @@ def drawn_rule(many, depth, chance):
     parts = [drawn_rule(many, depth - 1, chance), drawn_rule(many, chance.randrange(1, depth), chance)]
     chance.shuffle(parts)
     return (word, parts[0], parts[1])
+
+
+def turned_plainly(order):
+    """For each thing its place, as 1.2 says it."""
+    return tuple(order.index(thing) for thing in range(len(order)))
+
+
+def with_behind(one, other):
+    """The one with the other behind it, as 1.2 says it: at each place what the other has where the one tells."""
+    return tuple(other[one[place]] for place in range(len(one)))
+
+
+def plain_group(many, orders):
+    """All orders that come of these and of the plain one: these are put behind all that came, till no more come."""
+    made = {tuple(range(many))} | set(orders)
+    fresh = set(made)
+    while fresh:
+        came = {with_behind(one, other) for one in fresh for other in orders}
+        fresh = came - made
+        made |= fresh
+    return made
+
+
+def is_plain_group(many, orders):
+    """6.2 to the letter."""
+    orders = set(orders)
+    return (tuple(range(many)) in orders and all(turned_plainly(order) in orders for order in orders)
+            and all(with_behind(one, other) in orders for one in orders for other in orders))
+
+
+def weight(order, weights):
+    return sum(weights[place][thing] for place, thing in enumerate(order))
+
+
+def drawn_weights(many, most, seed):
+    chance = Random(seed)
+    return [[chance.randint(-most, most) for thing in range(many)] for place in range(many)]
